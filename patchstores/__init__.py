@@ -1,0 +1,1 @@
+"""Stores as sets of patches, conflicts as states."""
