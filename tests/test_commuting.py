@@ -86,6 +86,10 @@ class TwoHunks(Commuting):
         self.refused(hunk(0, 2, [], [5, 6, 7]), hunk(0, 3, [6], []))
         self.refused(hunk(0, 3, [6], [8]), hunk(0, 2, [5, 8, 7], []))
 
+    def test_they_stay_in_their_file(self):
+        self.holds(hunk(4, 2, [1], []), hunk(4, 3, [4], []), hunk(4, 4, [4], []), hunk(4, 2, [1], []))
+        self.holds(hunk(4, 4, [4], []), hunk(4, 2, [1], []), hunk(4, 2, [1], []), hunk(4, 3, [4], []))
+
     def test_hunks_of_unlike_files_stay(self):
         self.stays(hunk(0, 2, [1], [7, 8]), hunk(1, 2, [1], [7, 8]))
 
@@ -117,6 +121,10 @@ class TwoSwaps(Commuting):
     def test_a_common_token(self):
         for tokens in ([1, 2], [2, 1], [1, 3], [3, 1], [2, 3], [3, 2]):
             self.refused([1, 0, 1, 2], [1, 0] + tokens)
+
+    def test_a_token_like_the_files_number_is_no_common_one(self):
+        self.stays([1, 3, 3, 4], [1, 3, 5, 6])
+        self.stays([1, 3, 4, 3], [1, 3, 5, 6])
 
     def test_a_common_token_in_unlike_files(self):
         self.stays([1, 0, 1, 2], [1, 1, 2, 1])

@@ -102,6 +102,12 @@ class Joined(unittest.TestCase):
         self.assertIsNone(joined(first, row((4, 2, 4), (5, 2, 2))))
         self.assertIsNone(merged(first, row((4, 2, 4), (5, 2, 2))))
 
+    def test_what_both_have_can_not_be_brought_to_the_front(self):
+        first = row((1, 2, 1), (2, 3, 1))
+        second = row((2, 3, 1), (3, 2, 4))
+        self.assertIsNone(joined(first, second))
+        self.assertIsNone(joined(second, first))
+
     def test_pairs_that_conflict_both_ways(self):
         hunk = (0, 0, 2, 1, 5, 1, 6)
         for first, second in (
