@@ -1,4 +1,4 @@
-"""The one object of a line of calls, and what each call answers."""
+"""The one object of a line of calls: its tree, its patches, and what is told of one store or patch."""
 
 from patchstores.rows import names_of_row, picked_last, write_row
 from patchstores.states import Recorded, acting_names, conflicting_pairs, live_names, outcome, store_row
@@ -30,6 +30,7 @@ class Keeper:
         self.first_tree = first_tree
         self.recorded = {}
         self.stores = [{} for store in range(STORES)]
+        self.tags = {}
 
     def names_in(self, store):
         return sorted(self.stores[store])
@@ -37,9 +38,20 @@ class Keeper:
     def row_in(self, store):
         return store_row(self.recorded, self.names_in(store))
 
+    # How many of them are new there.
+    def take_in(self, store, names):
+        before = len(self.stores[store])
+        for name in names:
+            self.stores[store][name] = True
+        return len(self.stores[store]) - before
+
+    def leave_out(self, store, names):
+        for name in names:
+            self.stores[store].pop(name)
+
     def keep(self, store, name, block, ends):
         self.recorded[name] = Recorded(block, ends)
-        self.stores[store][name] = True
+        self.take_in(store, [name])
 
 
 # None if the store may be asked.

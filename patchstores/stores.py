@@ -1,5 +1,6 @@
 """Calls as numbers: each is read, carried out on one object, and its answer written behind the others."""
 
+from patchstores.carrying import bring_patch, forget_patch, go_back, pull_patches, set_tag, tell_alike, tell_tagged
 from patchstores.keeping import Keeper, begin_tree, record_patch, store_refusal
 from patchstores.keeping import tell_block, tell_conflicts, tell_idle, tell_known, tell_outcome, tell_row
 
@@ -11,6 +12,13 @@ OUTCOME = 4
 CONFLICTS = 5
 IDLE = 6
 BLOCK = 7
+BRING = 8
+PULL = 9
+FORGET = 10
+TAG = 11
+AT = 12
+BACK = 13
+ALIKE = 14
 
 
 class UnknownCall(ValueError):
@@ -60,6 +68,26 @@ def answer_of_store(keeper, call, store):
     return tell_idle(keeper, store)
 
 
+def answer_bring(keeper, reader):
+    store = reader.take()
+    source = reader.take()
+    name = reader.take()
+    return bring_patch(keeper, store, source, name)
+
+
+# What the second number is, a store, a patch or a tag, only the call tells.
+def answer_of_two(keeper, call, store, second):
+    if call == PULL:
+        return pull_patches(keeper, store, second)
+    if call == FORGET:
+        return forget_patch(keeper, store, second)
+    if call == TAG:
+        return set_tag(keeper, store, second)
+    if call == BACK:
+        return go_back(keeper, store, second)
+    return tell_alike(keeper, store, second)
+
+
 def answer_call(keeper, reader):
     call = reader.take()
     if call == TREE:
@@ -70,6 +98,13 @@ def answer_call(keeper, reader):
         return answer_of_store(keeper, call, reader.take())
     if call == BLOCK:
         return tell_block(keeper, reader.take())
+    if call == BRING:
+        return answer_bring(keeper, reader)
+    if call == AT:
+        return tell_tagged(keeper, reader.take())
+    if PULL <= call <= ALIKE:
+        store = reader.take()
+        return answer_of_two(keeper, call, store, reader.take())
     raise UnknownCall(f"no such call: {call}")
 
 

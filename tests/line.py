@@ -1,5 +1,7 @@
 """Calls written with names, for the tests."""
 
+import copy
+
 from patchstores.keeping import Keeper
 from patchstores.stores import answers, answers_from
 
@@ -66,10 +68,38 @@ class Line:
     def block(self, name):
         return self.ask([7, name])
 
-    def share(self, store, source):
-        """All of one store's patches into another one, with no call: recording alone brings no conflict about."""
-        self.keeper.stores[store].update(self.keeper.stores[source])
+    def bring(self, store, source, name):
+        return self.ask([8, store, source, name])
+
+    def pull(self, store, source):
+        return self.ask([9, store, source])
+
+    def forget(self, store, name):
+        return self.ask([10, store, name])
+
+    def tag(self, store, tag):
+        return self.ask([11, store, tag])
+
+    def at(self, tag):
+        return self.ask([12, tag])
+
+    def back(self, store, tag):
+        return self.ask([13, store, tag])
+
+    def alike(self, store, other):
+        return self.ask([14, store, other])
+
+    def state(self, store):
+        """known, row, outcome, conflicts and idle of one store."""
+        return [self.ask([call, store]) for call in range(2, 7)]
+
+    def tagged(self, tag):
+        """What a tag holds, seen in a copy of the object that goes back to it."""
+        other = Line()
+        other.keeper = copy.deepcopy(self.keeper)
+        return [self.at(tag), other.back(0, tag), other.state(0)]
 
     def everything(self):
-        told = [self.ask([call, store]) for call in range(2, 7) for store in range(3)]
-        return told + [self.block(name) for name in range(100)]
+        told = [self.state(store) for store in range(3)]
+        told += [self.block(name) for name in range(100)]
+        return told + [self.tagged(tag) for tag in range(4)]

@@ -1,47 +1,61 @@
-"""The document's Example."""
+"""The document's Example, number by number."""
 
 import unittest
 
-from tests.line import Line, answered, record_call, tree_call
+from patchstores.stores import answers
+from tests.line import record_call, tree_call
+
+# Each call with its answer, in the document's order.
+EXAMPLE = (
+    (tree_call([1, 0, 5, 1, 2, 3, 4, 5]), [1]),
+    (record_call(0, 7, [], [0, 0, 0, 1, 1, 2, 9, 9]), [0]),
+    (record_call(1, 3, [], [0, 0, 4, 1, 5, 1, 6]), [0]),
+    (record_call(1, 4, [], [0, 0, 0, 1, 1, 1, 8]), [0]),
+    ([9, 0, 1], [2]),
+    ([5, 0], [1, 4, 7]),
+    ([6, 0], [2, 4, 2, 7, 2]),
+    ([3, 0], [1, 3, 0, 0, 4, 1, 5, 1, 6]),
+    ([4, 0], [1, 0, 5, 1, 2, 3, 4, 6]),
+    (record_call(0, 9, [4, 7], [0, 0, 0, 1, 1, 2, 8, 9]), [0]),
+    ([6, 0], [2, 4, 1, 7, 1]),
+    ([4, 0], [1, 0, 6, 8, 9, 2, 3, 4, 6]),
+    (record_call(1, 5, [], [0, 0, 1, 1, 2, 0]), [1]),
+    ([7, 5], [2, 4, 0, 0, 0, 1, 1, 1, 8, 5, 0, 0, 1, 1, 2, 0, 0]),
+    ([9, 1, 0], [2]),
+    ([6, 1], [3, 4, 1, 5, 1, 7, 1]),
+    ([14, 0, 1], [0, 1]),
+    ([8, 0, 1, 5], [1]),
+    ([14, 0, 1], [1, 1]),
+    ([10, 0, 9], [1]),
+    ([5, 0], [2, 4, 7, 5, 7]),
+    ([11, 1, 0], [5]),
+    ([13, 0, 0], [5]),
+    ([12, 0], [1, 0, 6, 8, 9, 2, 3, 4, 6]),
+)
 
 
 class Example(unittest.TestCase):
-    def test_so_far_as_calls_alone_bring_it_about(self):
-        found = answered(
-            tree_call([1, 0, 5, 1, 2, 3, 4, 5]),
-            record_call(0, 7, [], [0, 0, 0, 1, 1, 2, 9, 9]),
-            record_call(1, 3, [], [0, 0, 4, 1, 5, 1, 6]),
-            record_call(1, 4, [], [0, 0, 0, 1, 1, 1, 8]),
-            record_call(1, 5, [], [0, 0, 1, 1, 2, 0]),
-            [7, 5],
-        )
-        block = [2, 4, 0, 0, 0, 1, 1, 1, 8, 5, 0, 0, 1, 1, 2, 0, 0]
-        self.assertEqual(found, [[1], [0], [0], [0], [1], block])
+    def test_every_beginning_of_it(self):
+        calls = []
+        expected = []
+        for call, answer in EXAMPLE:
+            calls = calls + call
+            expected = expected + [len(answer)] + answer
+            self.assertEqual(answers(calls), expected)
 
-    def test_with_the_stores_shared(self):
-        line = Line(1, 0, 5, 1, 2, 3, 4, 5)
-        self.assertEqual(line.record(0, 7, [], 0, 0, 0, 1, 1, 2, 9, 9), [0])
-        self.assertEqual(line.record(1, 3, [], 0, 0, 4, 1, 5, 1, 6), [0])
-        self.assertEqual(line.record(1, 4, [], 0, 0, 0, 1, 1, 1, 8), [0])
-        line.share(0, 1)
-        self.assertEqual(line.conflicts(0), [1, 4, 7])
-        self.assertEqual(line.idle(0), [2, 4, 2, 7, 2])
-        self.assertEqual(line.row(0), [1, 3, 0, 0, 4, 1, 5, 1, 6])
-        self.assertEqual(line.outcome(0), [1, 0, 5, 1, 2, 3, 4, 6])
-        self.assertEqual(line.record(0, 9, [4, 7], 0, 0, 0, 1, 1, 2, 8, 9), [0])
-        self.assertEqual(line.idle(0), [2, 4, 1, 7, 1])
-        self.assertEqual(line.outcome(0), [1, 0, 6, 8, 9, 2, 3, 4, 6])
-        self.assertEqual(line.record(1, 5, [], 0, 0, 1, 1, 2, 0), [1])
-        self.assertEqual(line.block(5), [2, 4, 0, 0, 0, 1, 1, 1, 8, 5, 0, 0, 1, 1, 2, 0, 0])
-        line.share(1, 0)
-        self.assertEqual(line.idle(1), [3, 4, 1, 5, 1, 7, 1])
-        self.assertEqual(line.row(1), line.row(0))
-        line.keeper.stores[0][5] = True
-        self.assertEqual(line.known(0), line.known(1))
-        line.keeper.stores[0].pop(9)
-        self.assertEqual(line.conflicts(0), [2, 4, 7, 5, 7])
-        self.assertEqual(line.known(1), [5, 3, 4, 5, 7, 9])
-        self.assertEqual(line.outcome(1), [1, 0, 6, 8, 9, 2, 3, 4, 6])
+    def test_the_whole_line_as_numbers(self):
+        calls = [
+            0, 8, 1, 0, 5, 1, 2, 3, 4, 5, 1, 0, 7, 0, 8, 0, 0, 0, 1, 1, 2, 9, 9, 1, 1, 3, 0, 7, 0, 0, 4, 1, 5, 1, 6,
+            1, 1, 4, 0, 7, 0, 0, 0, 1, 1, 1, 8, 9, 0, 1, 5, 0, 6, 0, 3, 0, 4, 0,
+            1, 0, 9, 2, 4, 7, 8, 0, 0, 0, 1, 1, 2, 8, 9, 6, 0, 4, 0, 1, 1, 5, 0, 6, 0, 0, 1, 1, 2, 0, 7, 5,
+            9, 1, 0, 6, 1, 14, 0, 1, 8, 0, 1, 5, 14, 0, 1, 10, 0, 9, 5, 0, 11, 1, 0, 13, 0, 0, 12, 0,
+        ]
+        self.assertEqual(answers(calls), [
+            1, 1, 1, 0, 1, 0, 1, 0, 1, 2, 3, 1, 4, 7, 5, 2, 4, 2, 7, 2, 9, 1, 3, 0, 0, 4, 1, 5, 1, 6,
+            8, 1, 0, 5, 1, 2, 3, 4, 6, 1, 0, 5, 2, 4, 1, 7, 1, 9, 1, 0, 6, 8, 9, 2, 3, 4, 6, 1, 1,
+            17, 2, 4, 0, 0, 0, 1, 1, 1, 8, 5, 0, 0, 1, 1, 2, 0, 0, 1, 2, 7, 3, 4, 1, 5, 1, 7, 1, 2, 0, 1, 1, 1,
+            2, 1, 1, 1, 1, 5, 2, 4, 7, 5, 7, 1, 5, 1, 5, 9, 1, 0, 6, 8, 9, 2, 3, 4, 6,
+        ])
 
 
 if __name__ == "__main__":

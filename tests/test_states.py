@@ -32,11 +32,10 @@ class AllAct(unittest.TestCase):
         line = Line(1, 0, 5, 1, 2, 3, 4, 5)
         line.record(0, 9, [], 0, 0, 0, 1, 1, 2, 8, 9)
         line.record(1, 2, [], 0, 0, 4, 1, 5, 1, 6)
-        line.share(0, 1)
-        line.share(1, 0)
+        line.pull(0, 1)
+        line.pull(1, 0)
         self.assertEqual(line.row(0), [2, 2, 0, 0, 4, 1, 5, 1, 6, 9, 0, 0, 0, 1, 1, 2, 8, 9])
-        for call in range(2, 7):
-            self.assertEqual(line.ask([call, 0]), line.ask([call, 1]))
+        self.assertEqual(line.state(0), line.state(1))
 
     def test_a_file_that_has_gone_and_one_that_has_come(self):
         line = Line(1, 5, 0)
@@ -55,7 +54,7 @@ class InConflict(unittest.TestCase):
         self.line.record(1, 3, [], 0, 0, 4, 1, 5, 1, 6)
         self.line.record(1, 4, [], 0, 0, 0, 1, 1, 1, 8)
         self.line.record(1, 5, [], 0, 0, 1, 1, 2, 0)
-        self.line.share(0, 1)
+        self.line.pull(0, 1)
 
     def test_conflicts_and_what_does_not_act(self):
         self.assertEqual(self.line.known(0), [4, 3, 4, 5, 7])
@@ -70,11 +69,10 @@ class InConflict(unittest.TestCase):
         self.assertEqual(self.line.outcome(1), [1, 0, 4, 8, 3, 4, 6])
 
     def test_the_same_from_both_sides(self):
-        self.line.share(1, 0)
-        self.line.share(2, 1)
-        for call in range(2, 7):
-            self.assertEqual(self.line.ask([call, 0]), self.line.ask([call, 1]))
-            self.assertEqual(self.line.ask([call, 0]), self.line.ask([call, 2]))
+        self.line.pull(1, 0)
+        self.line.pull(2, 1)
+        self.assertEqual(self.line.state(0), self.line.state(1))
+        self.assertEqual(self.line.state(0), self.line.state(2))
 
     def test_blocks_are_as_they_were(self):
         self.assertEqual(self.line.block(7), [1, 7, 0, 0, 0, 1, 1, 2, 9, 9, 0])
@@ -105,7 +103,7 @@ class InConflict(unittest.TestCase):
     def test_one_that_conflicts_ends_all_the_same(self):
         # 6 itself conflicts with 4 and 9, so it doesn't act; but 5 is ended.
         self.assertEqual(self.line.record(2, 9, [], 0, 0, 0, 1, 1, 0), [0])
-        self.line.share(2, 1)
+        self.line.pull(2, 1)
         self.assertEqual(self.line.conflicts(2), [2, 4, 9, 5, 9])
         self.assertEqual(self.line.record(2, 6, [5], 0, 0, 0, 0, 1, 77), [0])
         self.assertEqual(self.line.conflicts(2), [3, 4, 6, 4, 9, 6, 9])
@@ -117,8 +115,8 @@ class ManyPairs(unittest.TestCase):
         line = Line(0)
         for store, name in enumerate((8, 2, 5)):
             self.assertEqual(line.record(store, name, [], 2, 4), [0])
-        line.share(0, 1)
-        line.share(0, 2)
+        line.pull(0, 1)
+        line.pull(0, 2)
         self.assertEqual(line.conflicts(0), [3, 2, 5, 2, 8, 5, 8])
         self.assertEqual(line.idle(0), [3, 2, 2, 5, 2, 8, 2])
         self.assertEqual(line.row(0), [0])
@@ -160,20 +158,19 @@ class Ended(unittest.TestCase):
 
     def test_an_ended_one_conflicts_with_none(self):
         self.line.record(1, 3, [], 0, 0, 0, 1, 1, 0)
-        self.line.share(0, 1)
+        self.line.pull(0, 1)
         self.assertEqual(self.line.conflicts(0), [0])
         self.assertEqual(self.line.idle(0), [2, 2, 1, 6, 1])
         self.assertEqual(self.line.outcome(0), [3, 0, 1, 2, 1, 1, 9, 3, 0])
 
     def test_it_is_ended_in_that_store_alone(self):
         self.line.record(1, 3, [], 2, 7)
-        for name in (6, 2):
-            self.line.keeper.stores[1][name] = True
+        self.assertEqual(self.line.bring(1, 0, 2), [2])
         self.assertEqual(self.line.idle(1), [0])
         self.assertEqual(self.line.outcome(1), [3, 0, 2, 7, 2, 1, 0, 7, 0])
 
     def test_one_may_end_what_the_store_it_comes_to_has_not(self):
-        self.line.keeper.stores[1][8] = True
+        self.assertEqual(self.line.bring(1, 0, 8), [1])
         self.assertEqual(self.line.known(1), [1, 8])
         self.assertEqual(self.line.idle(1), [0])
         self.assertEqual(self.line.outcome(1), [3, 0, 2, 1, 2, 1, 0, 3, 0])
